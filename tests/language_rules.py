@@ -34,6 +34,16 @@ setattr super type vars sys __name__
 ATTRIBUTES_OUT = {"register", "mro", "elements", "open", "input", "version_info", "with_traceback", "add_note",
                   "format", "format_map"}
 
+VALUES_FREE = set("count index title find get join lower upper split strip copy add".split())
+VALUES_OUT = {name for kind in (str, int, list, dict, set, bytes, tuple) for name in dir(kind)} | {"args"}
+
+WALKED = {"zip", "enumerate", "reversed", "range"}
+WALKED_METHODS = {"items", "keys", "values"}
+WALKERS = {"list", "tuple", "dict", "sorted", "sum", "any", "all", "enumerate", "zip", "min", "max"}
+
+KEYWORDS = {"sorted": {"key", "reverse"}, "min": {"key", "default"}, "max": {"key", "default"}, "sum": {"start"},
+            "enumerate": {"start"}, "zip": {"strict"}}
+
 NODES = (
     ast.Module, ast.FunctionDef, ast.ClassDef, ast.arguments, ast.arg, ast.Lambda, ast.ImportFrom, ast.alias,
     ast.Assign, ast.AugAssign, ast.If, ast.While, ast.For, ast.Return, ast.Break, ast.Continue, ast.Pass, ast.Raise,
@@ -217,8 +227,119 @@ def attribute_faults(source, methods):
     return faults
 
 
+def shadow_faults(source):
+    """Parameters and locals that are called like a class or an import of their file."""
+    tree = ast.parse(source)
+    taken = [node.name for node in tree.body if isinstance(node, ast.ClassDef)]
+    taken += [alias.asname or alias.name for node in tree.body if isinstance(node, ast.ImportFrom)
+              for alias in node.names]
+    faults = []
+    for function in ast.walk(tree):
+        if isinstance(function, (ast.FunctionDef, ast.Lambda)):
+            body = function.body if isinstance(function.body, list) else [function.body]
+            names = [name for part in body + [function.args] for name in bound_names(part)]
+            faults += [f"L15 the local {name}" for name in names if name in taken]
+    return faults
+
+
+def annotation_faults(source):
+    faults = []
+    for node in ast.walk(ast.parse(source)):
+        if isinstance(node, ast.AnnAssign) or getattr(node, "annotation", None) or getattr(node, "returns", None):
+            faults.append(f"L21 an annotation in row {node.lineno}")
+    return faults
+
+
+def call_faults(source):
+    """Keywords where none may stand, and what is to be walked at once but is kept."""
+    tree = ast.parse(source)
+    walked_at_once = [node.iter for node in ast.walk(tree) if isinstance(node, (ast.For, ast.comprehension))]
+    for node in ast.walk(tree):
+        if isinstance(node, ast.Call) and node.args:
+            function = node.func
+            joins = isinstance(function, ast.Attribute) and function.attr == "join"
+            if joins or isinstance(function, ast.Name) and function.id in WALKERS:
+                walked_at_once.append(node.args[0])
+    faults = []
+    for node in ast.walk(tree):
+        if not isinstance(node, ast.Call):
+            continue
+        name = node.func.id if isinstance(node.func, ast.Name) else ""
+        method = node.func.attr if isinstance(node.func, ast.Attribute) else ""
+        if (name in WALKED or method in WALKED_METHODS) and node not in walked_at_once:
+            faults.append(f"L23 {name or method} is kept in row {node.lineno}")
+        if (name in OWN_NAMES or method in OWN_METHODS) and any(
+                keyword.arg not in KEYWORDS.get(name, ()) for keyword in node.keywords):
+            faults.append(f"L22 a keyword in row {node.lineno}")
+    return faults
+
+
+def set_faults(source):
+    """Sets that are kept or walked: one stands beside a comparison or straight within `sorted` or `len`."""
+    tree = ast.parse(source)
+    faults = [f"L24 a set in row {node.lineno}" for node in ast.walk(tree) if isinstance(node, ast.Set)]
+    beside = []
+    for node in ast.walk(tree):
+        if isinstance(node, ast.Compare):
+            beside += [node.left] + node.comparators
+        if isinstance(node, ast.Call) and isinstance(node.func, ast.Name) and node.func.id in ("sorted", "len"):
+            beside += node.args
+    for node in ast.walk(tree):
+        if isinstance(node, ast.Call) and isinstance(node.func, ast.Name) and node.func.id in ("set", "frozenset"):
+            if not any(node in ast.walk(part) for part in beside):
+                faults.append(f"L24 a set in row {node.lineno}")
+    return faults
+
+
+def values_of(tree):
+    """The names of the values that objects are given."""
+    return [node.attr for node in ast.walk(tree) if isinstance(node, ast.Attribute) and isinstance(node.ctx, ast.Store)]
+
+
+def package_faults(sources):
+    """The faults that show between files; `sources` is a dict from a file's name without its end to its source."""
+    trees = {name: ast.parse(source) for name, source in sources.items()}
+    methods = [name for tree in trees.values() for name in methods_of(tree)]
+    values = [name for tree in trees.values() for name in values_of(tree)]
+    faults = [f"L18 {name} is a method and a value" for name in sorted(set(methods) & set(values))]
+    faults += [f"L26 the value {name}" for name in values if name in VALUES_OUT and name not in VALUES_FREE]
+    draws = {}
+    for name, tree in trees.items():
+        draws[name] = []
+        for node in tree.body:
+            if isinstance(node, ast.ImportFrom) and node.module != "__future__":
+                source = node.module[len(PACKAGE) + 1:]
+                draws[name].append(source)
+                own = defined_names(sources.get(source, ""))
+                faults += [f"L16 {alias.name} is not of {source}" for alias in node.names if alias.name not in own]
+    return faults + [f"L16 {name} draws from itself" for name in draws if draws_from(draws, name, name)]
+
+
+def defined_names(source):
+    imported = [alias.asname or alias.name for node in ast.parse(source).body if isinstance(node, ast.ImportFrom)
+                for alias in node.names]
+    return [name for name in top_names(source) if name not in imported]
+
+
+def draws_from(draws, start, end):
+    """Whether one file draws from another, in however many steps."""
+    seen, waiting = set(), list(draws[start])
+    while waiting:
+        name = waiting.pop()
+        if name == end:
+            return True
+        if name not in seen:
+            seen.add(name)
+            waiting += draws.get(name, [])
+    return False
+
+
+FILE_RULES = (sign_faults, size_faults, word_faults, node_faults, top_faults, import_faults, name_faults, shadow_faults,
+              annotation_faults, call_faults, set_faults)
+
+
 def faults_of(source, methods=()):
     found = []
-    for rule in (sign_faults, size_faults, word_faults, node_faults, top_faults, import_faults, name_faults):
+    for rule in FILE_RULES:
         found += rule(source)
     return found + attribute_faults(source, list(methods) + methods_of(ast.parse(source)))

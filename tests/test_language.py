@@ -48,6 +48,29 @@ SENT_BACK = [
     ("def f(x, y):\n    return x is y\n", "L20"),
     ("def f(x):\n    x.sort()\n    return x\n", "L25"),
     ("x = '%'\n", "L27"),
+    ("from twicetold.errors import Closed\n\n\ndef f(Closed):\n    return Closed\n", "L15"),
+    ("class C:\n    pass\n\n\ndef f(x):\n    C = x\n    return C\n", "L15"),
+    ("def f(x: int):\n    return x\n", "L21"),
+    ("def f(x) -> int:\n    return x\n", "L21"),
+    ("def f(x):\n    return max(x, start=1)\n", "L22"),
+    ("def f(x):\n    return x.split(sep='a')\n", "L22"),
+    ("def f(x):\n    y = zip(x, x)\n    return list(y)\n", "L23"),
+    ("def f(x):\n    return x.items()\n", "L23"),
+    ("def f(x):\n    y = set(x)\n    return sorted(y)\n", "L24"),
+    ("def f(x):\n    return [y for y in set(x)]\n", "L24"),
+]
+
+# Packages of two files outside the language, and the rule that they are to be sent back with.
+PACKAGES_SENT_BACK = [
+    ({"one": "from twicetold.two import f\n", "two": "x = 1\n"}, "L16"),
+    ({"one": "from twicetold.two import f\n", "two": "from twicetold.three import f\n",
+      "three": "def f(x):\n    return x\n"}, "L16"),
+    ({"one": "from twicetold.two import f\n\nx = 1\n",
+      "two": "from twicetold.one import x\n\n\ndef f(y):\n    return x\n"}, "L16"),
+    ({"one": "class A:\n    def hour(self):\n        return 1\n",
+      "two": "class B:\n    def __init__(self):\n        self.hour = 1\n"}, "L18"),
+    ({"one": "class B:\n    def __init__(self):\n        self.items = 1\n"}, "L26"),
+    ({"one": "class B:\n    def __init__(self):\n        self.args = 1\n"}, "L26"),
 ]
 
 
@@ -69,6 +92,16 @@ class LanguageTest(unittest.TestCase):
         for path, source in sources.items():
             with self.subTest(path=path):
                 self.assertEqual(language_rules.faults_of(source, methods), [])
+
+    def test_the_files_keep_to_the_rules_together(self):
+        sources = {path.stem: path.read_bytes().decode("utf-8") for path in package_files()}
+        self.assertEqual(language_rules.package_faults(sources), [])
+        self.assertEqual(language_rules.defined_names(sources["__init__"]), [])
+
+    def test_packages_outside_the_rules_are_seen(self):
+        for sources, rule in PACKAGES_SENT_BACK:
+            with self.subTest(sources=sources):
+                self.assertTrue(any(fault.startswith(rule) for fault in language_rules.package_faults(sources)))
 
     def test_code_outside_the_rules_is_seen(self):
         for source, rule in SENT_BACK:
